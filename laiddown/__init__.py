@@ -1,0 +1,1 @@
+"""By what was laid down alone: the second stage of a disputation by rules."""

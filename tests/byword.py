@@ -1,0 +1,66 @@
+"""The document's words, written down again with sets of worlds, to hold the program against."""
+
+
+def worlds_of(p):
+    return {w for w in range(8) if p // 2 ** w % 2 == 1}
+
+
+def answer_by(p, stand, known):
+    """How a proposition is answered by some worlds that stand; all three are sets of worlds."""
+    if all(w in p for w in stand):
+        return 1
+    if not any(w in p for w in stand):
+        return 0
+    if all(w in p for w in known):
+        return 1
+    if not any(w in p for w in known):
+        return 0
+    return 2
+
+
+def bearing(p, stand):
+    if stand <= p:
+        return 1
+    if stand.isdisjoint(p):
+        return 2
+    return 0
+
+
+def alone(p, laid, known):
+    p, laid, known = worlds_of(p), worlds_of(laid), worlds_of(known)
+    return [answer_by(p, laid, known), bearing(p, laid)]
+
+
+def alonerow(row, laid, known):
+    return [len(row)] + [alone(p, laid, known)[0] for p in row]
+
+
+def along(row, laid, known):
+    stand = worlds_of(laid)
+    told = [len(row)]
+    for number in row:
+        p = worlds_of(number)
+        answer = answer_by(p, stand, worlds_of(known))
+        if answer == 1:
+            stand = {w for w in stand if w in p}
+        if answer == 0:
+            stand = {w for w in stand if w not in p}
+        told.append(answer)
+    return told
+
+
+def parts(row, laid, known):
+    one, other = alonerow(row, laid, known), along(row, laid, known)
+    places = [i for i in range(len(row)) if one[i + 1] != other[i + 1]]
+    return [len(places)] + places
+
+
+def pairs(every, laid, known):
+    """All pairs that clash, the lesser one first, in order."""
+    told = [alone(p, laid, known)[0] for p in range(every + 1)]
+    return [
+        (p, q)
+        for p in range(every + 1)
+        for q in range(p + 1, every + 1)
+        if told[p] == 1 and told[q] == 1 and told[p & q] == 0
+    ]
