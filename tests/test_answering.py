@@ -151,8 +151,8 @@ class AsTheWordsSay(unittest.TestCase):
     def test_one_letter_whatever_is_known_and_laid_down(self):
         rows = [list(row) for row in product(range(4), repeat=3)]
         for k, p in product(range(1, 4), repeat=2):
-            for start in range(0, len(rows), 14):
-                self.check(1, k, p, [0, 1], rows[start:start + 14])
+            for start in range(0, len(rows), 13):
+                self.check(1, k, p, range(4), rows[start:start + 13])
 
     def test_two_letters_whatever_is_known_and_laid_down(self):
         for k, p in product(range(1, 16), repeat=2):

@@ -119,7 +119,7 @@ class AsTheWordsSay(unittest.TestCase):
             self.check(3, k, p, 255)
 
     def test_every_pair_is_answered_like_the_list(self):
-        for k, p in product(range(1, 16, 2), range(1, 16)):
+        for k, p in product(range(1, 16), repeat=2):
             pairs = byword.pairs(15, p, k)
             for q in range(16):
                 calls = begin(2, k, p)
