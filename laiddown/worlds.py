@@ -52,7 +52,6 @@ def answer_by(p, stand, known):
     return answer_by_one_set(p, stand)
 
 
-# One world at least is left: what is so in all that stand is never denied, what is so in none never conceded.
 def still_standing(stand, p, answer):
     if answer == CONCEDED:
         return stand & p

@@ -45,6 +45,46 @@ def nth(k):
     return [9, k]
 
 
+def partner(p):
+    return [10, p]
+
+
+def caught(*props):
+    return [11, len(props), *props]
+
+
+def ways(*props):
+    return [12, len(props), *props]
+
+
+def way(k, *props):
+    return [13, k, len(props), *props]
+
+
+def may(i, *props):
+    return [14, i, len(props), *props]
+
+
+def order(i, a, *props):
+    return [15, i, a, len(props), *props]
+
+
+def matters(*props):
+    return [16, len(props), *props]
+
+
+def counts():
+    return [17]
+
+
+def bound(p):
+    return [18, p]
+
+
+def state():
+    return [19]
+
+
 def cut(told):
     """One list a call, out of what answers gives back."""
     found = []
@@ -70,3 +110,17 @@ def ask(*calls):
 def after(start, *calls):
     """What the calls answer behind a first one that is not looked at."""
     return ask(start, *calls)[1:]
+
+
+def hold_against(test, start, calls, asked):
+    """Holds what many calls answer against what is asked, one by one: long lists that differ take long to compare."""
+    for call, told, due in zip(calls, after_many(start, calls), asked, strict=True):
+        test.assertEqual(told, due, (start, call))
+
+
+def after_many(start, calls):
+    """What calls answer behind a first one, however many they are: each list of them has at most 45."""
+    found = []
+    for first in range(0, len(calls), 44):
+        found += after(start, *calls[first:first + 44])
+    return found

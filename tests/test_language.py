@@ -152,6 +152,67 @@ class Language(unittest.TestCase):
         for name, node in nodes(ast.Attribute):
             self.assertIn(node.attr, own | METHODS, (name, node.lineno))
 
+    def test_no_local_is_called_like_a_class_or_an_import(self):
+        for name, tree in trees():
+            tops = {node.name for node in tree.body if isinstance(node, ast.ClassDef)}
+            tops |= {alias.name for node in tree.body if isinstance(node, ast.ImportFrom) for alias in node.names}
+            for function in [node for node in ast.walk(tree) if isinstance(node, ast.FunctionDef)]:
+                self.assertEqual(tops & bound_names(ast.Module(function.body + [function.args], [])), set(),
+                                 (name, function.name))
+
+    def test_lists_and_dicts_of_the_top_are_only_read(self):
+        for name, tree in trees():
+            tops = {node.targets[0].id for node in tree.body
+                    if isinstance(node, ast.Assign) and isinstance(node.value, (ast.List, ast.Dict))}
+            read = [node.value for node in ast.walk(tree) if isinstance(node, ast.Subscript)
+                    and isinstance(node.ctx, ast.Load)]
+            read += [node.value for node in ast.walk(tree) if isinstance(node, ast.Attribute) and node.attr == "get"]
+            for node in ast.walk(tree):
+                if isinstance(node, ast.Name) and node.id in tops and isinstance(node.ctx, ast.Load):
+                    self.assertIn(node, read, (name, node.lineno))
+
+    def test_no_method_stands_twice(self):
+        for name, node in nodes(ast.ClassDef):
+            methods = [part.name for part in node.body]
+            self.assertEqual(len(methods), len(set(methods)), (name, node.name))
+            values = {part.attr for part in ast.walk(node) if isinstance(part, ast.Attribute)
+                      and isinstance(part.ctx, ast.Store)}
+            self.assertEqual(values & set(methods), set(), (name, node.name))
+
+    def test_is_stands_beside_none_and_true_and_false(self):
+        for name, node in nodes(ast.Compare):
+            for op, other in zip(node.ops, node.comparators):
+                if isinstance(op, (ast.Is, ast.IsNot)):
+                    self.assertTrue(isinstance(other, ast.Constant) and other.value in (None, True, False),
+                                    (name, node.lineno))
+
+    def test_no_annotations(self):
+        for name, node in nodes((ast.FunctionDef, ast.arg)):
+            self.assertIsNone(getattr(node, "returns", None), name)
+            self.assertIsNone(getattr(node, "annotation", None), name)
+
+    def test_walked_at_once(self):
+        for name, tree in trees():
+            walks = []
+            for node in ast.walk(tree):
+                if isinstance(node, (ast.For, ast.comprehension)):
+                    walks.append(node.iter)
+                if isinstance(node, ast.Call) and isinstance(node.func, ast.Name) and node.args:
+                    if node.func.id in ("list", "tuple", "dict", "sorted", "sum", "any", "all", "enumerate", "zip"):
+                        walks.append(node.args[0])
+            for node in ast.walk(tree):
+                if isinstance(node, ast.Call):
+                    called = node.func.id if isinstance(node.func, ast.Name) else node.func.attr
+                    if called in ("zip", "enumerate", "reversed", "range", "items", "keys", "values"):
+                        self.assertIn(node, walks, (name, node.lineno))
+
+    def test_no_sets_and_no_keywords(self):
+        # Narrower than the rules: the package has neither, so what they may stand beside is not looked at.
+        for name, node in nodes((ast.Set, ast.keyword)):
+            self.fail((name, node.lineno))
+        for name, node in nodes(ast.Name):
+            self.assertNotIn(node.id, ("set", "frozenset"), (name, node.lineno))
+
     def test_the_top_of_a_file(self):
         for name, tree in trees():
             self.assertIsNotNone(ast.get_docstring(tree), name)
